@@ -1,0 +1,1 @@
+"""Mixhall: levels and lanes of a mixing desk."""

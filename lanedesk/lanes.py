@@ -1,0 +1,98 @@
+"""The desk's calls: each takes plain values and answers one list of whole numbers."""
+
+LEAST_SAMPLE = -8388608
+GREATEST_SAMPLE = 8388607
+GREATEST_GAIN = 65535
+GAIN_AS_IT_CAME = 16384
+GLIDE_STEPS = 64
+
+MOST_SAMPLES = 256
+MOST_ROWS = 16
+
+OUT_OF_BOUNDS = -1
+TOO_MANY = -2
+LENGTHS_DIFFER = -5
+
+
+def rounded(dividend, divisor):
+    """The whole number nearest to dividend / divisor (divisor above 0); of two as near the even one."""
+    below = dividend // divisor
+    # Floor division leaves a rest from 0 up for negative dividends too, so one comparison serves both signs.
+    twice_rest = 2 * (dividend % divisor)
+    if twice_rest > divisor:
+        return below + 1
+    if twice_rest == divisor:
+        return below + below % 2
+    return below
+
+
+def held(sample):
+    """The sample, or the bound that it lies beyond."""
+    return max(LEAST_SAMPLE, min(GREATEST_SAMPLE, sample))
+
+
+def held_gain(handed):
+    """The gain that a handed number counts as."""
+    return min(GREATEST_GAIN, handed)
+
+
+def between(u, v, step):
+    """The gain that lies so many steps of 64 on from gain u to gain v."""
+    return rounded(u * (GLIDE_STEPS - step) + v * step, GLIDE_STEPS)
+
+
+def answer(number, told):
+    """A call's one list: the number, no bytes, how many numbers are told, and they."""
+    return [number, 0, len(told)] + told
+
+
+def refusal(number):
+    """A refusal that tells nothing but its number."""
+    return answer(number, [])
+
+
+def samples_answer(products):
+    """The answer of samples, each from its exact sum of sample times gain, with what clipped of them."""
+    # Rounding comes before holding: a sum that rounds onto a bound has not clipped.
+    exact = [rounded(product, GAIN_AS_IT_CAME) for product in products]
+    samples = [held(sample) for sample in exact]
+    clipped = [place for place in range(len(exact)) if samples[place] != exact[place]]
+    first = clipped[0] if len(clipped) > 0 else len(samples)
+    return answer(len(samples), samples + [len(clipped), first])
+
+
+def times(g, x):
+    """Each sample of x by the gain g."""
+    if len(x) > MOST_SAMPLES:
+        return refusal(TOO_MANY)
+    level = held_gain(g)
+    return samples_answer([held(sample) * level for sample in x])
+
+
+def glide(start, u, v, x):
+    """Each sample of x by a gain that goes on from u to v, one step of 64 a sample, from step start."""
+    if len(x) > MOST_SAMPLES:
+        return refusal(TOO_MANY)
+    # The first comparison is needed for itself: with no samples, 65 is together not above 65.
+    if start > GLIDE_STEPS or start + len(x) > GLIDE_STEPS + 1:
+        return refusal(OUT_OF_BOUNDS)
+    begin = held_gain(u)
+    end = held_gain(v)
+    return samples_answer([held(x[i]) * between(begin, end, start + i) for i in range(len(x))])
+
+
+def mixed_product(place, n, x, levels):
+    """The exact sum, over all rows of n samples, of the row's sample at place times the row's gain."""
+    return sum([held(x[number * n + place]) * levels[number] for number in range(len(levels))])
+
+
+def mix(n, x, g):
+    """The rows of n samples in x mixed to one row, each by its gain in g."""
+    if n > MOST_SAMPLES or len(g) > MOST_ROWS:
+        return refusal(TOO_MANY)
+    if len(g) == 0:
+        return refusal(OUT_OF_BOUNDS)
+    if len(x) != n * len(g):
+        return refusal(LENGTHS_DIFFER)
+    levels = [held_gain(handed) for handed in g]
+    return samples_answer([mixed_product(place, n, x, levels) for place in range(n)])

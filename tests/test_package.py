@@ -1,0 +1,65 @@
+"""What the interface and the rules of the language ask of the package's files themselves."""
+
+import ast
+import builtins
+import inspect
+import pathlib
+import unittest
+
+from lanedesk import lanes
+
+PACKAGE = pathlib.Path(lanes.__file__).parent
+FILES = sorted(PACKAGE.glob("*.py"))
+
+ALLOWED = set("""len range enumerate zip min max sum abs sorted reversed int str bool list tuple dict set frozenset
+isinstance ord repr any all divmod Exception ValueError TypeError KeyError IndexError LookupError ZeroDivisionError
+ArithmeticError OverflowError RuntimeError NotImplementedError""".split())
+
+
+class Interface(unittest.TestCase):
+    def test_names_and_arguments(self):
+        self.assertEqual(list(inspect.signature(lanes.times).parameters), ["g", "x"])
+        self.assertEqual(list(inspect.signature(lanes.glide).parameters), ["start", "u", "v", "x"])
+        self.assertEqual(list(inspect.signature(lanes.mix).parameters), ["n", "x", "g"])
+
+    def test_arguments_by_name(self):
+        self.assertEqual(lanes.times(x=[4], g=8192), [1, 0, 3, 2, 0, 1])
+        self.assertEqual(lanes.glide(x=[4], v=0, u=8192, start=0), [1, 0, 3, 2, 0, 1])
+        self.assertEqual(lanes.mix(g=[8192], x=[4], n=1), [1, 0, 3, 2, 0, 1])
+
+
+class Files(unittest.TestCase):
+    def trees(self):
+        return [(path.name, ast.parse(path.read_text(encoding="ascii"))) for path in FILES]
+
+    def test_the_package_holds_its_files_alone(self):
+        others = [path.name for path in PACKAGE.iterdir() if path.suffix != ".py" and path.name != "__pycache__"]
+        self.assertEqual(others, [])
+        self.assertIn("__init__.py", [path.name for path in FILES])
+
+    def test_nothing_is_imported(self):
+        for name, tree in self.trees():
+            found = [node.lineno for node in ast.walk(tree) if isinstance(node, (ast.Import, ast.ImportFrom))]
+            self.assertEqual(found, [], name)
+
+    def test_of_pythons_own_names_only_those_allowed(self):
+        for name, tree in self.trees():
+            used = {node.id for node in ast.walk(tree) if isinstance(node, ast.Name)}
+            self.assertEqual({one for one in used if hasattr(builtins, one)} - ALLOWED, set(), name)
+
+    def test_no_floats_and_no_true_division(self):
+        for name, tree in self.trees():
+            for node in ast.walk(tree):
+                self.assertNotIsInstance(node, ast.Div, name)
+                if isinstance(node, ast.Constant):
+                    self.assertIn(type(node.value), (int, str, bool, type(None)), name)
+
+    def test_sizes(self):
+        for name, tree in self.trees():
+            lines = (PACKAGE / name).read_text(encoding="ascii").split("\n")
+            self.assertLessEqual(len(lines), 400, name)
+            self.assertLessEqual(max(len(line) for line in lines), 120, name)
+            self.assertFalse([line for line in lines if "\t" in line], name)
+            for node in ast.walk(tree):
+                if isinstance(node, ast.FunctionDef):
+                    self.assertLessEqual(node.end_lineno - node.lineno + 1, 40, node.name)

@@ -1,0 +1,125 @@
+"""The document's sentences of what always holds, of samples and of all calls."""
+
+import contextlib
+import io
+import itertools
+import random
+import unittest
+
+from lanedesk.lanes import glide, mix, times
+from tests.model import GREATEST, GREATEST_NUMBER, GREATEST_SIGNED, LEAST, LEAST_SIGNED, SAMPLES, FixedList
+
+WITHIN = [one for one in SAMPLES if LEAST <= one <= GREATEST]
+
+# Of each call an answer, one with clips, and each refusal; values are made anew for each use.
+CALLS = [
+    (times, lambda: (8192, FixedList([3, -3, 5]))),
+    (times, lambda: (GREATEST_NUMBER, FixedList([LEAST_SIGNED, 0, GREATEST_SIGNED]))),
+    (times, lambda: (8192, FixedList())),
+    (times, lambda: (8192, FixedList([1] * 257))),
+    (glide, lambda: (3, 0, 65535, FixedList([3, -3, 5]))),
+    (glide, lambda: (3, GREATEST_NUMBER, 65535, FixedList([LEAST_SIGNED, 0, GREATEST_SIGNED]))),
+    (glide, lambda: (64, 1, 2, FixedList())),
+    (glide, lambda: (0, 1, 2, FixedList([1] * 257))),
+    (glide, lambda: (64, 1, 2, FixedList([1, 1]))),
+    (mix, lambda: (2, FixedList([3, -3, 5, 7]), FixedList([8192, 3]))),
+    (mix, lambda: (2, FixedList([LEAST_SIGNED, 0, GREATEST_SIGNED, 7]), FixedList([GREATEST_NUMBER, 3]))),
+    (mix, lambda: (0, FixedList(), FixedList([8192]))),
+    (mix, lambda: (257, FixedList([1]), FixedList([8192]))),
+    (mix, lambda: (1, FixedList([1]), FixedList())),
+    (mix, lambda: (1, FixedList([1, 1]), FixedList([8192]))),
+]
+
+
+def mixed(column, gains):
+    """The one sample that a column of rows' samples is mixed to."""
+    return mix(1, list(column), list(gains))[3]
+
+
+class SamplesAndGains(unittest.TestCase):
+    def test_by_16384_a_sample_is_itself(self):
+        self.assertEqual(times(16384, WITHIN), [len(WITHIN), 0, len(WITHIN) + 2] + WITHIN + [0, len(WITHIN)])
+        self.assertEqual(glide(0, 16384, 16384, WITHIN), times(16384, WITHIN))
+        self.assertEqual(mix(len(WITHIN), WITHIN, [16384]), times(16384, WITHIN))
+
+    def test_by_0_a_sample_is_0(self):
+        silence = [len(SAMPLES), 0, len(SAMPLES) + 2] + [0] * len(SAMPLES) + [0, len(SAMPLES)]
+        self.assertEqual(times(0, SAMPLES), silence)
+        self.assertEqual(glide(0, 0, 0, SAMPLES), silence)
+        self.assertEqual(mix(len(SAMPLES), SAMPLES, [0]), silence)
+
+    def test_rows_in_any_order_mix_to_the_same(self):
+        rows = [([GREATEST, -7, 5], 16384), ([GREATEST, 1, -5], 8192), ([LEAST, 3, 2], 24577), ([LEAST, 9, 1], 65535)]
+        answers = []
+        for order in itertools.permutations(rows):
+            x = [sample for row, gain in order for sample in row]
+            answers.append(mix(3, x, [gain for row, gain in order]))
+        for one in answers:
+            self.assertEqual(one, answers[0])
+
+    def test_many_rows_in_any_order_mix_to_the_same(self):
+        source = random.Random(4)
+        for _ in range(100):
+            rows = [([source.randint(LEAST - 9, GREATEST + 9) for _ in range(5)], source.randint(0, 65540))
+                    for _ in range(source.randint(1, 16))]
+            answers = []
+            for order in (rows, rows[::-1], source.sample(rows, len(rows))):
+                answers.append(mix(5, [one for row, gain in order for one in row], [gain for row, gain in order]))
+            self.assertEqual(answers[1], answers[0])
+            self.assertEqual(answers[2], answers[0])
+
+    def test_greater_samples_of_rows_never_make_less(self):
+        for gains in ((8192, 8192), (16384, 1), (65535, 65535), (0, 16384)):
+            for other in (LEAST, -3, 0, 3, GREATEST):
+                heard = [mixed((sample, other), gains) for sample in SAMPLES]
+                self.assertEqual(heard, sorted(heard))
+                heard = [mixed((other, sample), gains) for sample in SAMPLES]
+                self.assertEqual(heard, sorted(heard))
+
+    def test_greater_samples_of_many_rows_never_make_less(self):
+        source = random.Random(5)
+        for _ in range(200):
+            gains = [source.randint(0, 65535) for _ in range(source.randint(1, 16))]
+            reach = source.choice([4, 1000, GREATEST + 2])
+            lower = [source.randint(-reach, reach) for _ in gains]
+            upper = [one + source.randint(0, 3) for one in lower]
+            self.assertLessEqual(mixed(lower, gains), mixed(upper, gains))
+
+
+class AllCalls(unittest.TestCase):
+    def test_what_was_handed_in_is_not_changed_at_any_time(self):
+        for call, handed in CALLS:
+            values = handed()
+            call(*values)
+            self.assertEqual(values, handed())
+
+    def test_a_second_call_answers_as_the_first(self):
+        first = [call(*handed()) for call, handed in CALLS]
+        second = [call(*handed()) for call, handed in reversed(CALLS)]
+        self.assertEqual(second[::-1], first)
+
+    def test_an_answer_is_the_callers_own(self):
+        for call, handed in CALLS:
+            values = handed()
+            answer = call(*values)
+            before = list(answer)
+            answer.append(1)
+            answer[0] = 99
+            self.assertEqual(values, handed())
+            self.assertEqual(call(*values), before)
+
+    def test_an_answer_is_one_list_of_whole_numbers(self):
+        for call, handed in CALLS:
+            answer = call(*handed())
+            self.assertIs(type(answer), list)
+            for number in answer:
+                self.assertIs(type(number), int)
+            self.assertEqual(answer[1], 0)
+            self.assertEqual(answer[2], len(answer) - 3)
+
+    def test_nothing_is_printed(self):
+        out, err = io.StringIO(), io.StringIO()
+        with contextlib.redirect_stdout(out), contextlib.redirect_stderr(err):
+            for call, handed in CALLS:
+                call(*handed())
+        self.assertEqual((out.getvalue(), err.getvalue()), ("", ""))
