@@ -6,6 +6,11 @@ GREATEST_GAIN = 65535
 GAIN_AS_IT_CAME = 16384
 GLIDE_STEPS = 64
 
+# The points of the fader's curve: each position stands at the same place as its gain.
+CURVE_POSITIONS = (0, 128, 256, 512, 768, 1023)
+CURVE_GAINS = (0, 64, 512, 4096, 16384, 65535)
+GREATEST_POSITION = 1023
+
 MOST_SAMPLES = 256
 MOST_ROWS = 16
 
@@ -36,9 +41,24 @@ def held_gain(handed):
     return min(GREATEST_GAIN, handed)
 
 
+def line_value(u, v, step, steps):
+    """The value, rounded, of a straight line that goes from u to v in so many steps, at one of them."""
+    return rounded(u * (steps - step) + v * step, steps)
+
+
 def between(u, v, step):
     """The gain that lies so many steps of 64 on from gain u to gain v."""
-    return rounded(u * (GLIDE_STEPS - step) + v * step, GLIDE_STEPS)
+    return line_value(u, v, step, GLIDE_STEPS)
+
+
+def curve_gain(p):
+    """The gain of a position from 0 to 1,023 on the fader's curve."""
+    end = 1
+    while CURVE_POSITIONS[end] < p:
+        end = end + 1
+    begin = end - 1
+    steps = CURVE_POSITIONS[end] - CURVE_POSITIONS[begin]
+    return line_value(CURVE_GAINS[begin], CURVE_GAINS[end], p - CURVE_POSITIONS[begin], steps)
 
 
 def answer(number, told):
@@ -96,3 +116,31 @@ def mix(n, x, g):
         return refusal(LENGTHS_DIFFER)
     levels = [held_gain(handed) for handed in g]
     return samples_answer([mixed_product(place, n, x, levels) for place in range(n)])
+
+
+def peak(x):
+    """The greatest distance from 0 of a sample of x, how many have it, and the place of the first."""
+    if len(x) > MOST_SAMPLES:
+        return refusal(TOO_MANY)
+    if len(x) == 0:
+        return answer(0, [0, 0, 0])
+    distances = [abs(held(sample)) for sample in x]
+    greatest = max(distances)
+    return answer(len(x), [greatest, distances.count(greatest), distances.index(greatest)])
+
+
+def gain(p):
+    """The gain of the fader's position p."""
+    if p > GREATEST_POSITION:
+        return refusal(OUT_OF_BOUNDS)
+    return answer(curve_gain(p), [])
+
+
+def position(g):
+    """The greatest position of the fader whose gain is at most g."""
+    level = held_gain(g)
+    # Position 0 has gain 0, which no gain is below, so the way down ends there at the latest.
+    found = GREATEST_POSITION
+    while curve_gain(found) > level:
+        found = found - 1
+    return answer(found, [])

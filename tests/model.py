@@ -75,3 +75,40 @@ def mix(n, x, g):
     rows = [x[k * n:(k + 1) * n] for k in range(len(g))]
     return told([sum(Fraction(kept(row[i]) * counted(gain), 16384) for row, gain in zip(rows, g))
                  for i in range(n)])
+
+
+def peak(x):
+    if len(x) > 256:
+        return [-2, 0, 0]
+    greatest, many, first = 0, 0, 0
+    for place, one in enumerate(x):
+        distance = kept(one) if one > 0 else -kept(one)
+        if many == 0 or distance > greatest:
+            greatest, many, first = distance, 1, place
+        elif distance == greatest:
+            many += 1
+    return [len(x), 0, 3, greatest, many, first]
+
+
+# Of each straight line of the curve: its last position, where it begins, and how much it rises a position.
+LINES = [(128, 0, 0, Fraction(1, 2)), (256, 128, 64, Fraction(7, 2)), (512, 256, 512, Fraction(14)),
+         (768, 512, 4096, Fraction(48)), (1023, 768, 16384, Fraction(49151, 255))]
+
+
+def curve(p):
+    """The exact value of the curve at a position, reckoned from each line's slope."""
+    for last, position, gain, slope in LINES:
+        if p <= last:
+            return gain + slope * (p - position)
+    raise ValueError(p)
+
+
+FADER = [round(curve(p)) for p in range(1024)]
+
+
+def gain(p):
+    return [-1, 0, 0] if p > 1023 else [FADER[p], 0, 0]
+
+
+def position(g):
+    return [max(p for p in range(1024) if FADER[p] <= counted(g)), 0, 0]

@@ -21,11 +21,17 @@ class Interface(unittest.TestCase):
         self.assertEqual(list(inspect.signature(lanes.times).parameters), ["g", "x"])
         self.assertEqual(list(inspect.signature(lanes.glide).parameters), ["start", "u", "v", "x"])
         self.assertEqual(list(inspect.signature(lanes.mix).parameters), ["n", "x", "g"])
+        self.assertEqual(list(inspect.signature(lanes.peak).parameters), ["x"])
+        self.assertEqual(list(inspect.signature(lanes.gain).parameters), ["p"])
+        self.assertEqual(list(inspect.signature(lanes.position).parameters), ["g"])
 
     def test_arguments_by_name(self):
         self.assertEqual(lanes.times(x=[4], g=8192), [1, 0, 3, 2, 0, 1])
         self.assertEqual(lanes.glide(x=[4], v=0, u=8192, start=0), [1, 0, 3, 2, 0, 1])
         self.assertEqual(lanes.mix(g=[8192], x=[4], n=1), [1, 0, 3, 2, 0, 1])
+        self.assertEqual(lanes.peak(x=[-4]), [1, 0, 3, 4, 1, 0])
+        self.assertEqual(lanes.gain(p=768), [16384, 0, 0])
+        self.assertEqual(lanes.position(g=16384), [768, 0, 0])
 
 
 class Files(unittest.TestCase):

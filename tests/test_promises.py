@@ -6,7 +6,7 @@ import itertools
 import random
 import unittest
 
-from lanedesk.lanes import glide, mix, times
+from lanedesk.lanes import gain, glide, mix, peak, position, times
 from tests.model import GREATEST, GREATEST_NUMBER, GREATEST_SIGNED, LEAST, LEAST_SIGNED, SAMPLES, FixedList
 
 WITHIN = [one for one in SAMPLES if LEAST <= one <= GREATEST]
@@ -28,6 +28,16 @@ CALLS = [
     (mix, lambda: (257, FixedList([1]), FixedList([8192]))),
     (mix, lambda: (1, FixedList([1]), FixedList())),
     (mix, lambda: (1, FixedList([1, 1]), FixedList([8192]))),
+    (peak, lambda: (FixedList([3, -5, 5]),)),
+    (peak, lambda: (FixedList([LEAST_SIGNED, 0, GREATEST_SIGNED]),)),
+    (peak, lambda: (FixedList(),)),
+    (peak, lambda: (FixedList([1] * 257),)),
+    (gain, lambda: (129,)),
+    (gain, lambda: (1023,)),
+    (gain, lambda: (1024,)),
+    (position, lambda: (0,)),
+    (position, lambda: (40000,)),
+    (position, lambda: (GREATEST_NUMBER,)),
 ]
 
 
@@ -52,8 +62,8 @@ class SamplesAndGains(unittest.TestCase):
         rows = [([GREATEST, -7, 5], 16384), ([GREATEST, 1, -5], 8192), ([LEAST, 3, 2], 24577), ([LEAST, 9, 1], 65535)]
         answers = []
         for order in itertools.permutations(rows):
-            x = [sample for row, gain in order for sample in row]
-            answers.append(mix(3, x, [gain for row, gain in order]))
+            x = [sample for row, level in order for sample in row]
+            answers.append(mix(3, x, [level for row, level in order]))
         for one in answers:
             self.assertEqual(one, answers[0])
 
@@ -64,7 +74,7 @@ class SamplesAndGains(unittest.TestCase):
                     for _ in range(source.randint(1, 16))]
             answers = []
             for order in (rows, rows[::-1], source.sample(rows, len(rows))):
-                answers.append(mix(5, [one for row, gain in order for one in row], [gain for row, gain in order]))
+                answers.append(mix(5, [one for row, level in order for one in row], [level for row, level in order]))
             self.assertEqual(answers[1], answers[0])
             self.assertEqual(answers[2], answers[0])
 
@@ -84,6 +94,14 @@ class SamplesAndGains(unittest.TestCase):
             lower = [source.randint(-reach, reach) for _ in gains]
             upper = [one + source.randint(0, 3) for one in lower]
             self.assertLessEqual(mixed(lower, gains), mixed(upper, gains))
+
+
+class Fader(unittest.TestCase):
+    def test_a_positions_gains_position_is_it_or_a_later_one_with_the_same_gain(self):
+        for p in range(1024):
+            back = position(gain(p)[0])[0]
+            self.assertGreaterEqual(back, p)
+            self.assertEqual(gain(back), gain(p), p)
 
 
 class AllCalls(unittest.TestCase):
