@@ -112,3 +112,115 @@ def gain(p):
 
 def position(g):
     return [max(p for p in range(1024) if FADER[p] <= counted(g)), 0, 0]
+
+
+def pan(p):
+    return [0, 0, 2, 8192 - 128 * p, 8192 + 128 * p] if abs(p) <= 64 else [-1, 0, 0]
+
+
+def lane(first, points=(), many=None):
+    """The bytes of a first gain and points (tick, gain), right or not; many is told in the place of how many."""
+    count = len(points) if many is None else many
+    told_bytes = first.to_bytes(2, "little") + count.to_bytes(2, "little")
+    for tick, level in points:
+        told_bytes += tick.to_bytes(4, "little") + level.to_bytes(2, "little")
+    return list(told_bytes)
+
+
+class Fault(Exception):
+    """The first fault of a lane's bytes: its kind and place."""
+
+
+class Reader:
+    """Takes numbers from the front of bytes."""
+
+    def __init__(self, handed):
+        self.handed = bytes(handed)
+        self.place = 0
+
+    def number(self, many):
+        taken = self.handed[self.place:self.place + many]
+        if len(taken) < many:
+            raise Fault(1, len(self.handed))
+        self.place += many
+        return int.from_bytes(taken, "little")
+
+    def bounded(self, many, least, greatest):
+        number = self.number(many)
+        if not least <= number <= greatest:
+            raise Fault(2, self.place - many)
+        return number
+
+
+def read_lane(handed):
+    """The first gain and the points that bytes tell."""
+    reader = Reader(handed)
+    first = reader.number(2)
+    points = []
+    for _ in range(reader.bounded(2, 0, 64)):
+        tick = reader.bounded(4, 1, 16777215)
+        if points and points[-1][0] >= tick:
+            raise Fault(3, reader.place - 4)
+        level = reader.number(2)
+        if level == (points[-1][1] if points else first):
+            raise Fault(3, reader.place - 2)
+        points.append((tick, level))
+    if reader.place < len(handed):
+        raise Fault(4, reader.place)
+    return first, points
+
+
+def of_lane(handed, answer):
+    """What answer makes of the lane that bytes tell, or the refusal of bytes that tell none."""
+    if len(handed) > 1024:
+        return [-2, 0, 0]
+    try:
+        first, points = read_lane(handed)
+    except Fault as fault:
+        return [-6, 0, 2] + list(fault.args)
+    return answer(first, points)
+
+
+def judge(handed):
+    return of_lane(handed, lambda first, points:
+                   [0, 0, 3, first, len(points), max([tick for tick, level in points], default=0)])
+
+
+def at(tick, handed):
+    def answer(first, points):
+        said = first
+        for begin, level in points:
+            if begin > tick:
+                break
+            said = level
+        return [said, 0, 0]
+    return of_lane(handed, answer)
+
+
+def some_points(source):
+    """Points of a lane, mostly right ones; now and then a number among them is spoilt."""
+    reach = source.choice([3, 8, 300, 16777215])
+    many = source.choice([0, 1, 2, 3] if reach < 64 else [0, 1, 2, 3, 5, 64])
+    ticks = sorted(source.sample(range(1, reach + 1), many))
+    points = [(tick, source.randint(0, source.choice([2, 300, 65535]))) for tick in ticks]
+    if points and source.randint(0, 2) == 0:
+        place = source.randrange(many)
+        tick = source.choice([0, 1, ticks[place - 1], reach, 16777215, 16777216, 2 ** 32 - 1])
+        points[place] = (tick, source.choice([points[place - 1][1], 0, 65535]))
+    return points
+
+
+def spoilt_lanes(source, many):
+    """Bytes of lanes, right ones among them, many with bytes that are gone, spoilt or left over."""
+    for _ in range(many):
+        points = some_points(source)
+        count = source.choice([len(points)] * 7 + [64, 65, len(points) + 1, max(len(points) - 1, 0)])
+        told_bytes = lane(source.randint(0, 3), points, count)
+        spoil = source.randint(0, 5)
+        if spoil == 0:
+            told_bytes = told_bytes[:source.randint(0, len(told_bytes))]
+        if spoil == 1:
+            told_bytes = told_bytes + [source.randint(0, 255) for _ in range(source.choice([1, 2, 5, 6, 7]))]
+        if spoil == 2:
+            told_bytes[source.randrange(len(told_bytes))] = source.choice([0, 1, 255])
+        yield told_bytes

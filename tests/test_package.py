@@ -4,6 +4,7 @@ import ast
 import builtins
 import inspect
 import pathlib
+import re
 import unittest
 
 from lanedesk import lanes
@@ -15,6 +16,13 @@ ALLOWED = set("""len range enumerate zip min max sum abs sorted reversed int str
 isinstance ord repr any all divmod Exception ValueError TypeError KeyError IndexError LookupError ZeroDivisionError
 ArithmeticError OverflowError RuntimeError NotImplementedError""".split())
 
+METHODS = set("""append clear copy count endswith extend find get index insert isalnum isalpha isdigit islower isspace
+isupper items join keys ljust lower lstrip partition pop remove replace reverse rfind rjust rpartition rsplit rstrip
+setdefault split splitlines startswith strip update upper values zfill bit_length""".split())
+
+WORDS_OUT = set("""type typing typing_extensions enum Enum IntEnum StrEnum Flag IntFlag Generic Protocol ABC ABCMeta
+namedtuple NamedTuple TypedDict TYPE_CHECKING abstractmethod""".split())
+
 
 class Interface(unittest.TestCase):
     def test_names_and_arguments(self):
@@ -24,6 +32,9 @@ class Interface(unittest.TestCase):
         self.assertEqual(list(inspect.signature(lanes.peak).parameters), ["x"])
         self.assertEqual(list(inspect.signature(lanes.gain).parameters), ["p"])
         self.assertEqual(list(inspect.signature(lanes.position).parameters), ["g"])
+        self.assertEqual(list(inspect.signature(lanes.pan).parameters), ["p"])
+        self.assertEqual(list(inspect.signature(lanes.judge).parameters), ["l"])
+        self.assertEqual(list(inspect.signature(lanes.at).parameters), ["tick", "l"])
 
     def test_arguments_by_name(self):
         self.assertEqual(lanes.times(x=[4], g=8192), [1, 0, 3, 2, 0, 1])
@@ -32,6 +43,9 @@ class Interface(unittest.TestCase):
         self.assertEqual(lanes.peak(x=[-4]), [1, 0, 3, 4, 1, 0])
         self.assertEqual(lanes.gain(p=768), [16384, 0, 0])
         self.assertEqual(lanes.position(g=16384), [768, 0, 0])
+        self.assertEqual(lanes.pan(p=64), [0, 0, 2, 0, 16384])
+        self.assertEqual(lanes.judge(l=[7, 0, 0, 0]), [0, 0, 3, 7, 0, 0])
+        self.assertEqual(lanes.at(l=[7, 0, 0, 0], tick=9), [7, 0, 0])
 
 
 class Files(unittest.TestCase):
@@ -52,6 +66,15 @@ class Files(unittest.TestCase):
         for name, tree in self.trees():
             used = {node.id for node in ast.walk(tree) if isinstance(node, ast.Name)}
             self.assertEqual({one for one in used if hasattr(builtins, one)} - ALLOWED, set(), name)
+
+    def test_of_pythons_own_methods_only_those_allowed(self):
+        for name, tree in self.trees():
+            used = {node.attr for node in ast.walk(tree) if isinstance(node, ast.Attribute)}
+            self.assertEqual(used - METHODS, set(), name)
+
+    def test_words_that_stand_nowhere(self):
+        for path in FILES:
+            self.assertEqual(set(re.findall(r"\w+", path.read_text(encoding="ascii"))) & WORDS_OUT, set(), path.name)
 
     def test_no_floats_and_no_true_division(self):
         for name, tree in self.trees():

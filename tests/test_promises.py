@@ -1,4 +1,4 @@
-"""The document's sentences of what always holds, of samples and of all calls."""
+"""The document's sentences of what always holds, of samples, of the fader, of lanes and of all calls."""
 
 import contextlib
 import io
@@ -6,8 +6,8 @@ import itertools
 import random
 import unittest
 
-from lanedesk.lanes import gain, glide, mix, peak, position, times
-from tests.model import GREATEST, GREATEST_NUMBER, GREATEST_SIGNED, LEAST, LEAST_SIGNED, SAMPLES, FixedList
+from lanedesk.lanes import at, gain, glide, judge, mix, pan, peak, position, times
+from tests.model import GREATEST, GREATEST_NUMBER, GREATEST_SIGNED, LEAST, LEAST_SIGNED, SAMPLES, FixedList, lane
 
 WITHIN = [one for one in SAMPLES if LEAST <= one <= GREATEST]
 
@@ -38,6 +38,17 @@ CALLS = [
     (position, lambda: (0,)),
     (position, lambda: (40000,)),
     (position, lambda: (GREATEST_NUMBER,)),
+    (pan, lambda: (-3,)),
+    (pan, lambda: (65,)),
+    (judge, lambda: (FixedList(lane(700)),)),
+    (judge, lambda: (FixedList(lane(700, [(5, 9), (8, 65535)])),)),
+    (judge, lambda: (FixedList(lane(700, [(5, 9), (8, 9)])),)),
+    (judge, lambda: (FixedList([0] * 1025),)),
+    (at, lambda: (7, FixedList(lane(700)))),
+    (at, lambda: (7, FixedList(lane(700, [(5, 9), (8, 65535)])))),
+    (at, lambda: (GREATEST_NUMBER, FixedList(lane(700, [(5, 9), (8, 65535)])))),
+    (at, lambda: (7, FixedList(lane(700, [(5, 9), (8, 9)])))),
+    (at, lambda: (7, FixedList([0] * 1025))),
 ]
 
 
@@ -96,12 +107,50 @@ class SamplesAndGains(unittest.TestCase):
             self.assertLessEqual(mixed(lower, gains), mixed(upper, gains))
 
 
+class Pans(unittest.TestCase):
+    def test_a_sample_mixed_with_itself_by_a_pans_two_shares_is_itself(self):
+        for p in range(-64, 65):
+            shares = pan(p)[3:]
+            self.assertEqual(len(shares), 2)
+            self.assertEqual(mix(len(WITHIN), WITHIN + WITHIN, shares), times(16384, WITHIN), p)
+
+
 class Fader(unittest.TestCase):
     def test_a_positions_gains_position_is_it_or_a_later_one_with_the_same_gain(self):
         for p in range(1024):
             back = position(gain(p)[0])[0]
             self.assertGreaterEqual(back, p)
             self.assertEqual(gain(back), gain(p), p)
+
+
+class Lanes(unittest.TestCase):
+    def said(self, ticks, l):
+        return tuple(at(tick, l)[0] for tick in ticks)
+
+    def test_what_is_said_at_all_ticks_tells_one_lane(self):
+        # All rows of at most four points at ticks 1 to 4, of three gains; those that are lanes say each row once.
+        ticks = range(1, 5)
+        rows = {}
+        for many in range(5):
+            for chosen in itertools.combinations(ticks, many):
+                for first, *levels in itertools.product(range(3), repeat=many + 1):
+                    l = lane(first, list(zip(chosen, levels)))
+                    if judge(l)[0] == 0:
+                        rows.setdefault(self.said(range(5), l), []).append(l)
+        self.assertEqual(sorted(rows), sorted(itertools.product(range(3), repeat=5)))
+        for same in rows.values():
+            self.assertEqual(len(same), 1, same)
+
+    def test_the_bytes_come_back_from_what_is_said_at_all_ticks(self):
+        source = random.Random(11)
+        for _ in range(2000):
+            points = [(source.randint(0, 6), source.randint(0, 2)) for _ in range(source.randint(0, 4))]
+            l = lane(source.randint(0, 2), points) + [0] * source.choice([0, 0, 0, 1])
+            if judge(l)[0] == 0:
+                heard = self.said(range(8), l)
+                turns = [(tick, heard[tick]) for tick in range(1, 8) if heard[tick] != heard[tick - 1]]
+                self.assertEqual(lane(heard[0], turns), l)
+                self.assertEqual(judge(l)[3:], [heard[0], len(turns), ([0] + [tick for tick, level in turns])[-1]])
 
 
 class AllCalls(unittest.TestCase):
