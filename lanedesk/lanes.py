@@ -1,94 +1,16 @@
 """The desk's calls: each takes plain values and answers one list of whole numbers."""
 
-LEAST_SAMPLE = -8388608
-GREATEST_SAMPLE = 8388607
-GREATEST_GAIN = 65535
-GAIN_AS_IT_CAME = 16384
-GLIDE_STEPS = 64
-
-# The points of the fader's curve: each position stands at the same place as its gain.
-CURVE_POSITIONS = (0, 128, 256, 512, 768, 1023)
-CURVE_GAINS = (0, 64, 512, 4096, 16384, 65535)
-GREATEST_POSITION = 1023
-
-GREATEST_PAN = 64
-SHARE_STEP = 128
-
-LEAST_TICK = 1
-GREATEST_TICK = 16777215
-MOST_POINTS = 64
-
-# A lane's bytes: a head of the first gain and how many points, then each point's tick and gain.
-COUNT_PLACE = 2
-HEAD_BYTES = 4
-TICK_BYTES = 4
-POINT_BYTES = 6
+from lanedesk.answers import LENGTHS_DIFFER, NO_LANE, OUT_OF_BOUNDS, TOO_MANY, answer, refusal
+from lanedesk.levels import GAIN_AS_IT_CAME, GLIDE_STEPS, GREATEST_POSITION
+from lanedesk.levels import between, curve_gain, held, held_gain, rounded
+from lanedesk.points import gain_at, lane_fault, points_of
 
 MOST_SAMPLES = 256
 MOST_ROWS = 16
 MOST_LANE_BYTES = 1024
 
-OUT_OF_BOUNDS = -1
-TOO_MANY = -2
-LENGTHS_DIFFER = -5
-NO_LANE = -6
-
-BYTES_END = 1
-NUMBER_OUT_OF_BOUNDS = 2
-NOT_ANOTHER = 3
-BYTES_LEFT_OVER = 4
-
-
-def rounded(dividend, divisor):
-    """The whole number nearest to dividend / divisor (divisor above 0); of two as near the even one."""
-    below = dividend // divisor
-    # Floor division leaves a rest from 0 up for negative dividends too, so one comparison serves both signs.
-    twice_rest = 2 * (dividend % divisor)
-    if twice_rest > divisor:
-        return below + 1
-    if twice_rest == divisor:
-        return below + below % 2
-    return below
-
-
-def held(sample):
-    """The sample, or the bound that it lies beyond."""
-    return max(LEAST_SAMPLE, min(GREATEST_SAMPLE, sample))
-
-
-def held_gain(handed):
-    """The gain that a handed number counts as."""
-    return min(GREATEST_GAIN, handed)
-
-
-def line_value(u, v, step, steps):
-    """The value, rounded, of a straight line that goes from u to v in so many steps, at one of them."""
-    return rounded(u * (steps - step) + v * step, steps)
-
-
-def between(u, v, step):
-    """The gain that lies so many steps of 64 on from gain u to gain v."""
-    return line_value(u, v, step, GLIDE_STEPS)
-
-
-def curve_gain(p):
-    """The gain of a position from 0 to 1,023 on the fader's curve."""
-    end = 1
-    while CURVE_POSITIONS[end] < p:
-        end = end + 1
-    begin = end - 1
-    steps = CURVE_POSITIONS[end] - CURVE_POSITIONS[begin]
-    return line_value(CURVE_GAINS[begin], CURVE_GAINS[end], p - CURVE_POSITIONS[begin], steps)
-
-
-def answer(number, told):
-    """A call's one list: the number, no bytes, how many numbers are told, and they."""
-    return [number, 0, len(told)] + told
-
-
-def refusal(number):
-    """A refusal that tells nothing but its number."""
-    return answer(number, [])
+GREATEST_PAN = 64
+SHARE_STEP = 128
 
 
 def samples_answer(products):
@@ -101,54 +23,6 @@ def samples_answer(products):
     return answer(len(samples), samples + [len(clipped), first])
 
 
-def two_bytes(l, place):
-    """The number whose two bytes stand at place, the lowest first."""
-    return l[place] + 256 * l[place + 1]
-
-
-def four_bytes(l, place):
-    """The number whose four bytes stand at place, the lowest first."""
-    return two_bytes(l, place) + 65536 * two_bytes(l, place + 2)
-
-
-def point_fault(l, place, tick_before, gain_before):
-    """The first fault (kind, place) of the point whose bytes are due at place, None if it has none."""
-    # Each number is looked at before the next one's bytes are missed.
-    if len(l) < place + TICK_BYTES:
-        return [BYTES_END, len(l)]
-    tick = four_bytes(l, place)
-    if tick < LEAST_TICK or tick > GREATEST_TICK:
-        return [NUMBER_OUT_OF_BOUNDS, place]
-    if tick <= tick_before:
-        return [NOT_ANOTHER, place]
-    if len(l) < place + POINT_BYTES:
-        return [BYTES_END, len(l)]
-    if two_bytes(l, place + TICK_BYTES) == gain_before:
-        return [NOT_ANOTHER, place + TICK_BYTES]
-    return None
-
-
-def lane_fault(l):
-    """The first fault (kind, place) of a lane's bytes, None if they have none."""
-    if len(l) < HEAD_BYTES:
-        return [BYTES_END, len(l)]
-    many = two_bytes(l, COUNT_PLACE)
-    if many > MOST_POINTS:
-        return [NUMBER_OUT_OF_BOUNDS, COUNT_PLACE]
-    end = HEAD_BYTES + POINT_BYTES * many
-    tick_before = 0
-    gain_before = two_bytes(l, 0)
-    for place in range(HEAD_BYTES, end, POINT_BYTES):
-        fault = point_fault(l, place, tick_before, gain_before)
-        if fault is not None:
-            return fault
-        tick_before = four_bytes(l, place)
-        gain_before = two_bytes(l, place + TICK_BYTES)
-    if len(l) > end:
-        return [BYTES_LEFT_OVER, end]
-    return None
-
-
 def lane_refusal(l):
     """The refusal of bytes that tell no lane, None if they tell one."""
     if len(l) > MOST_LANE_BYTES:
@@ -157,20 +31,6 @@ def lane_refusal(l):
     if fault is not None:
         return answer(NO_LANE, fault)
     return None
-
-
-def points_of(l):
-    """The points (tick, gain) of a lane whose bytes have no fault."""
-    # The first gain stands before them as a point at tick 0, so that each tick has a point that isn't behind it.
-    points = [(0, two_bytes(l, 0))]
-    for place in range(HEAD_BYTES, len(l), POINT_BYTES):
-        points.append((four_bytes(l, place), two_bytes(l, place + TICK_BYTES)))
-    return points
-
-
-def gain_at(points, tick):
-    """What a lane of these points says at a tick."""
-    return [point[1] for point in points if point[0] <= tick][-1]
 
 
 def times(g, x):

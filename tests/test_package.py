@@ -24,6 +24,12 @@ WORDS_OUT = set("""type typing typing_extensions enum Enum IntEnum StrEnum Flag 
 namedtuple NamedTuple TypedDict TYPE_CHECKING abstractmethod""".split())
 
 
+def defined(tree):
+    """The names that a file's top gives a def, a class or a plain value."""
+    names = {node.name for node in tree.body if isinstance(node, (ast.FunctionDef, ast.ClassDef))}
+    return names | {target.id for node in tree.body if isinstance(node, ast.Assign) for target in node.targets}
+
+
 class Interface(unittest.TestCase):
     def test_names_and_arguments(self):
         self.assertEqual(list(inspect.signature(lanes.times).parameters), ["g", "x"])
@@ -57,10 +63,43 @@ class Files(unittest.TestCase):
         self.assertEqual(others, [])
         self.assertIn("__init__.py", [path.name for path in FILES])
 
-    def test_nothing_is_imported(self):
+    def test_nothing_is_imported_but_the_packages_own_names_from_where_they_are_defined(self):
+        trees = dict(self.trees())
+        for name, tree in trees.items():
+            for node in ast.walk(tree):
+                self.assertNotIsInstance(node, ast.Import, name)
+                if isinstance(node, ast.ImportFrom):
+                    package, module = node.module.split(".")
+                    self.assertEqual((package, node.level), ("lanedesk", 0), name)
+                    self.assertEqual({one.name for one in node.names} - defined(trees[module + ".py"]), set(), name)
+                    self.assertEqual([one.asname for one in node.names if one.asname], [], name)
+
+    def test_imports_stand_at_the_top_and_go_round_in_no_ring(self):
+        drawn = {}
         for name, tree in self.trees():
-            found = [node.lineno for node in ast.walk(tree) if isinstance(node, (ast.Import, ast.ImportFrom))]
-            self.assertEqual(found, [], name)
+            imports = [node for node in ast.walk(tree) if isinstance(node, ast.ImportFrom)]
+            self.assertEqual([node for node in imports if node not in tree.body], [], name)
+            drawn[name] = {node.module.split(".")[1] + ".py" for node in imports}
+        self.assertEqual(drawn["__init__.py"], set())
+        while drawn:
+            free = [name for name in drawn if not drawn[name] & set(drawn)]
+            self.assertNotEqual(free, [], drawn)
+            drawn = {name: drawn[name] for name in drawn if name not in free}
+
+    def test_no_parameter_and_no_local_is_called_like_an_import_or_a_class_of_its_file(self):
+        for name, tree in self.trees():
+            taken = {one.name for node in tree.body if isinstance(node, ast.ImportFrom) for one in node.names}
+            taken |= {node.name for node in tree.body if isinstance(node, ast.ClassDef)}
+            bound = {node.arg for node in ast.walk(tree) if isinstance(node, ast.arg)}
+            bound |= {node.id for node in ast.walk(tree)
+                      if isinstance(node, ast.Name) and isinstance(node.ctx, ast.Store)}
+            self.assertEqual(taken & bound, set(), name)
+
+    def test_what_is_imported_is_used(self):
+        for name, tree in self.trees():
+            drawn = {one.name for node in tree.body if isinstance(node, ast.ImportFrom) for one in node.names}
+            used = {node.id for node in ast.walk(tree) if isinstance(node, ast.Name)}
+            self.assertEqual(drawn - used, set(), name)
 
     def test_of_pythons_own_names_only_those_allowed(self):
         for name, tree in self.trees():

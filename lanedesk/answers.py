@@ -1,0 +1,16 @@
+"""The one list that a call answers, and the numbers of the refusals."""
+
+OUT_OF_BOUNDS = -1
+TOO_MANY = -2
+LENGTHS_DIFFER = -5
+NO_LANE = -6
+
+
+def answer(number, told):
+    """A call's one list: the number, no bytes, how many numbers are told, and they."""
+    return [number, 0, len(told)] + told
+
+
+def refusal(number):
+    """A refusal that tells nothing but its number."""
+    return answer(number, [])
