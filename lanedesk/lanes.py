@@ -1,13 +1,18 @@
 """The desk's calls: each takes plain values and answers one list of whole numbers."""
 
-from lanedesk.answers import LENGTHS_DIFFER, NO_LANE, OUT_OF_BOUNDS, TOO_MANY, answer, refusal
+from lanedesk.answers import LENGTHS_DIFFER, NO_LANE, OUT_OF_BOUNDS, TOO_MANY, TOO_MANY_POINTS
+from lanedesk.answers import answer, bytes_answer, refusal
 from lanedesk.levels import GAIN_AS_IT_CAME, GLIDE_STEPS, GREATEST_POSITION
 from lanedesk.levels import between, curve_gain, held, held_gain, rounded
-from lanedesk.points import gain_at, lane_fault, points_of
+from lanedesk.passes import LONGEST_WAY_BACK, MOST_EVENT_NUMBERS, TRIM_MODE
+from lanedesk.passes import are_events, event_ticks, gain_heard
+from lanedesk.points import MOST_POINTS, TICKS_END
+from lanedesk.points import bytes_of, fewest, gain_at, lane_fault, lane_ticks, points_of, ticks_of
 
 MOST_SAMPLES = 256
 MOST_ROWS = 16
 MOST_LANE_BYTES = 1024
+MOST_ROW_TICKS = 256
 
 GREATEST_PAN = 64
 SHARE_STEP = 128
@@ -30,6 +35,26 @@ def lane_refusal(l):
     fault = lane_fault(l)
     if fault is not None:
         return answer(NO_LANE, fault)
+    return None
+
+
+def lane_answer(turns):
+    """The answer of the lane that says each turn's gain from its tick on till the next; the first is at tick 0."""
+    points = fewest(turns)
+    if len(points) - 1 > MOST_POINTS:
+        return refusal(TOO_MANY_POINTS)
+    return bytes_answer(bytes_of(points))
+
+
+def pass_refusal(a, b, mode, back, l, e):
+    """The refusal of what is no pass over a lane, None if it is one."""
+    if len(e) > MOST_EVENT_NUMBERS:
+        return refusal(TOO_MANY)
+    refused = lane_refusal(l)
+    if refused is not None:
+        return refused
+    if a > b or b > TICKS_END or mode > TRIM_MODE or back > LONGEST_WAY_BACK or not are_events(a, b, e):
+        return refusal(OUT_OF_BOUNDS)
     return None
 
 
@@ -121,3 +146,39 @@ def at(tick, l):
     if refused is not None:
         return refused
     return answer(gain_at(points_of(l), tick), [])
+
+
+def row(tick, n, l):
+    """The gains at n ticks from one tick on of the lane whose bytes are l."""
+    if n > MOST_ROW_TICKS:
+        return refusal(TOO_MANY)
+    refused = lane_refusal(l)
+    if refused is not None:
+        return refused
+    points = points_of(l)
+    return answer(n, [gain_at(points, tick + i) for i in range(n)])
+
+
+def pass_of(a, b, mode, back, gain, l, e):
+    """The bytes of the lane that says what is heard in a pass from tick a to tick b over the lane of the bytes l."""
+    refused = pass_refusal(a, b, mode, back, l, e)
+    if refused is not None:
+        return refused
+    points = points_of(l)
+    turns = []
+    # A pass may have millions of ticks; what is said changes at these alone.
+    for tick in lane_ticks([a, b] + ticks_of(points) + event_ticks(back, e)):
+        old = gain_at(points, tick)
+        said = gain_heard(mode, back, gain, e, tick, old) if a <= tick < b else old
+        turns.append((tick, said))
+    return lane_answer(turns)
+
+
+def heard(a, b, mode, back, gain, tick, l, e):
+    """The gain heard at a tick of a pass from tick a to tick b over the lane whose bytes are l."""
+    refused = pass_refusal(a, b, mode, back, l, e)
+    if refused is not None:
+        return refused
+    if tick < a or tick >= b:
+        return refusal(OUT_OF_BOUNDS)
+    return answer(gain_heard(mode, back, gain, e, tick, gain_at(points_of(l), tick)), [])

@@ -2,10 +2,13 @@
 
 LEAST_TICK = 1
 GREATEST_TICK = 16777215
+TICKS_END = 16777216
 MOST_POINTS = 64
 
 # A lane's bytes: a head of the first gain and how many points, then each point's tick and gain.
+GAIN_BYTES = 2
 COUNT_PLACE = 2
+COUNT_BYTES = 2
 HEAD_BYTES = 4
 TICK_BYTES = 4
 POINT_BYTES = 6
@@ -76,3 +79,36 @@ def points_of(l):
 def gain_at(points, tick):
     """What a lane of these points says at a tick."""
     return [point[1] for point in points if point[0] <= tick][-1]
+
+
+def ticks_of(points):
+    """The points' ticks, the first gain's 0 among them."""
+    return [point[0] for point in points]
+
+
+def lane_ticks(ticks):
+    """Those of the ticks that a lane's points may stand at, or its first gain, each once, in their order."""
+    return [tick for tick in sorted(set(ticks)) if 0 <= tick <= GREATEST_TICK]
+
+
+def fewest(points):
+    """The points without those that say what the one before says already."""
+    return [points[i] for i in range(len(points)) if i == 0 or points[i][1] != points[i - 1][1]]
+
+
+def low_first(number, many):
+    """The number's bytes, so many of them, the lowest first."""
+    told = []
+    rest = number
+    for place in range(many):
+        told.append(rest % 256)
+        rest = rest // 256
+    return told
+
+
+def bytes_of(points):
+    """The bytes of the lane of these points, the first of which is the first gain's, at tick 0."""
+    told = low_first(points[0][1], GAIN_BYTES) + low_first(len(points) - 1, COUNT_BYTES)
+    for point in points[1:]:
+        told = told + low_first(point[0], TICK_BYTES) + low_first(point[1], GAIN_BYTES)
+    return told

@@ -186,15 +186,127 @@ def judge(handed):
                    [0, 0, 3, first, len(points), max([tick for tick, level in points], default=0)])
 
 
+def said(first, points, tick):
+    """What a lane says at a tick."""
+    level = first
+    for begin, other in points:
+        if begin > tick:
+            break
+        level = other
+    return level
+
+
 def at(tick, handed):
+    return of_lane(handed, lambda first, points: [said(first, points, tick), 0, 0])
+
+
+def row(tick, n, handed):
+    if n > 256:
+        return [-2, 0, 0]
+    return of_lane(handed, lambda first, points:
+                   [n, 0, n] + [said(first, points, one) for one in range(tick, tick + n)])
+
+
+def lane_told(first, points=()):
+    """The answer that tells the bytes of a lane."""
+    told_bytes = lane(first, points)
+    return [len(told_bytes), len(told_bytes)] + told_bytes + [0]
+
+
+def lane_saying(says, marks):
+    """The answer of the lane that says says(tick) at each tick, which changes at marks or soon behind them alone."""
+    ticks = {tick for mark in marks for tick in range(mark - 1, mark + 19) if 0 < tick < 16777216}
+    first = last = says(0)
+    points = []
+    for tick in sorted(ticks):
+        level = says(tick)
+        if level != last:
+            points.append((tick, level))
+            last = level
+    return [-3, 0, 0] if len(points) > 64 else lane_told(first, points)
+
+
+def events(e):
+    return [tuple(e[place:place + 3]) for place in range(0, len(e), 3)]
+
+
+def sounding(mode, back, begin, e, tick, old):
+    """What's heard at a tick of a pass, from the events so far alone."""
+    so_far = [event for event in events(e) if event[0] <= tick]
+    touches = [counted(level) for when, what, level in so_far if what == 1]
+    fader = (touches or [counted(begin)])[-1]
+    if mode == 0 or mode == 2 and not touches:
+        return old
+    if mode == 2 or mode == 3:
+        return fader
+    if mode == 4:
+        return min(round(Fraction(old * fader, 16384)), 65535)
+    if so_far and so_far[-1][1] == 1:
+        return fader
+    ends = [one[0] for before, one in zip(so_far, so_far[1:]) if before[1] == 1 and one[1] == 0]
+    if ends and tick - ends[-1] < back:
+        step = int(Fraction(64 * (tick - ends[-1] + 1), back + 1))
+        return round(Fraction(fader * (64 - step) + old * step, 64))
+    return old
+
+
+def is_pass(a, b, mode, back, e):
+    if not (a <= b <= 16777216 and mode in range(5) and back in range(17) and len(e) % 3 == 0):
+        return False
+    ticks = [tick for tick, what, level in events(e)]
+    return (ticks == sorted(ticks) and all(a <= tick < b for tick in ticks)
+            and all(what in (0, 1) for tick, what, level in events(e)))
+
+
+def pass_of(a, b, mode, back, gain, handed, e):
+    if len(e) > 192:
+        return [-2, 0, 0]
+
     def answer(first, points):
-        said = first
-        for begin, level in points:
-            if begin > tick:
-                break
-            said = level
-        return [said, 0, 0]
+        if not is_pass(a, b, mode, back, e):
+            return [-1, 0, 0]
+
+        def says(tick):
+            old = said(first, points, tick)
+            return sounding(mode, back, gain, e, tick, old) if a <= tick < b else old
+        return lane_saying(says, [a, b] + [tick for tick, level in points] + e[::3])
     return of_lane(handed, answer)
+
+
+def heard(a, b, mode, back, gain, tick, handed, e):
+    if len(e) > 192:
+        return [-2, 0, 0]
+
+    def answer(first, points):
+        if not is_pass(a, b, mode, back, e) or not a <= tick < b:
+            return [-1, 0, 0]
+        return [sounding(mode, back, gain, e, tick, said(first, points, tick)), 0, 0]
+    return of_lane(handed, answer)
+
+
+def a_lane(source, base=0, reach=40, most=8):
+    """The bytes of a right lane with points from a base on."""
+    many = source.choice([0, 1, most, source.randint(0, most)])
+    highest = source.choice([2, 300, 65535])
+    first = last = source.randint(0, highest)
+    points = []
+    for tick in sorted(source.sample(range(max(base, 1), min(base + reach, 16777216)), many)):
+        last = source.choice([level for level in (last - 1, last + 1, highest) if 0 <= level <= 65535 and level != last])
+        points.append((tick, last))
+    return lane(first, points)
+
+
+def a_pass(source, base=0, reach=40):
+    """The numbers a, b, mode, back, gain and the events of a right pass from a base on."""
+    a = min(source.choice([base, source.randint(base, base + reach)]), 16777216)
+    b = min(source.choice([a, a + 1, a + reach, source.randint(a, a + reach)]), 16777216)
+    e = []
+    if a < b:
+        for tick in sorted(source.randrange(a, b) for _ in range(source.choice([0, 1, 2, 3, 6]))):
+            level = source.choice([0, 1, 16384, 16385, 65535, 65536, GREATEST_NUMBER, source.randint(0, 65535)])
+            e += [tick, source.randint(0, 1), level]
+    begin = source.choice([0, 1, 8192, 16384, 49152, 65535, 65536, GREATEST_NUMBER, source.randint(0, 65535)])
+    return a, b, source.randint(0, 4), source.choice([0, 1, 2, 3, 7, 15, 16]), begin, e
 
 
 def some_points(source):

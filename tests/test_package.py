@@ -30,6 +30,17 @@ def defined(tree):
     return names | {target.id for node in tree.body if isinstance(node, ast.Assign) for target in node.targets}
 
 
+def own_attributes(tree):
+    """The methods of a file's classes and the values that these give their objects."""
+    names = set()
+    for one in ast.walk(tree):
+        if isinstance(one, ast.ClassDef):
+            names |= {node.name for node in ast.walk(one) if isinstance(node, ast.FunctionDef)}
+            names |= {node.attr for node in ast.walk(one)
+                      if isinstance(node, ast.Attribute) and isinstance(node.ctx, ast.Store)}
+    return names
+
+
 class Interface(unittest.TestCase):
     def test_names_and_arguments(self):
         self.assertEqual(list(inspect.signature(lanes.times).parameters), ["g", "x"])
@@ -41,6 +52,11 @@ class Interface(unittest.TestCase):
         self.assertEqual(list(inspect.signature(lanes.pan).parameters), ["p"])
         self.assertEqual(list(inspect.signature(lanes.judge).parameters), ["l"])
         self.assertEqual(list(inspect.signature(lanes.at).parameters), ["tick", "l"])
+        self.assertEqual(list(inspect.signature(lanes.row).parameters), ["tick", "n", "l"])
+        self.assertEqual(list(inspect.signature(lanes.pass_of).parameters),
+                         ["a", "b", "mode", "back", "gain", "l", "e"])
+        self.assertEqual(list(inspect.signature(lanes.heard).parameters),
+                         ["a", "b", "mode", "back", "gain", "tick", "l", "e"])
 
     def test_arguments_by_name(self):
         self.assertEqual(lanes.times(x=[4], g=8192), [1, 0, 3, 2, 0, 1])
@@ -52,6 +68,10 @@ class Interface(unittest.TestCase):
         self.assertEqual(lanes.pan(p=64), [0, 0, 2, 0, 16384])
         self.assertEqual(lanes.judge(l=[7, 0, 0, 0]), [0, 0, 3, 7, 0, 0])
         self.assertEqual(lanes.at(l=[7, 0, 0, 0], tick=9), [7, 0, 0])
+        self.assertEqual(lanes.row(l=[7, 0, 0, 0], n=2, tick=9), [2, 0, 2, 7, 7])
+        self.assertEqual(lanes.pass_of(e=[4, 1, 9], l=[7, 0, 0, 0], gain=8, back=2, mode=3, b=16777216, a=4),
+                         [10, 10, 7, 0, 1, 0, 4, 0, 0, 0, 9, 0, 0])
+        self.assertEqual(lanes.heard(e=[5, 1, 9], l=[7, 0, 0, 0], tick=4, gain=8, back=2, mode=3, b=6, a=4), [8, 0, 0])
 
 
 class Files(unittest.TestCase):
@@ -109,7 +129,12 @@ class Files(unittest.TestCase):
     def test_of_pythons_own_methods_only_those_allowed(self):
         for name, tree in self.trees():
             used = {node.attr for node in ast.walk(tree) if isinstance(node, ast.Attribute)}
-            self.assertEqual(used - METHODS, set(), name)
+            self.assertEqual(used - METHODS - own_attributes(tree), set(), name)
+
+    def test_own_methods_and_values_are_called_like_none_of_pythons_own(self):
+        taken = set().union(*[dir(value) for value in ("", 0, [], {}, set(), b"", ())]) - {"__init__"}
+        for name, tree in self.trees():
+            self.assertEqual(own_attributes(tree) & taken, set(), name)
 
     def test_words_that_stand_nowhere(self):
         for path in FILES:

@@ -6,10 +6,15 @@ import itertools
 import random
 import unittest
 
-from lanedesk.lanes import at, gain, glide, judge, mix, pan, peak, position, times
+from lanedesk.lanes import at, gain, glide, heard, judge, mix, pan, pass_of, peak, position, row, times
+from tests import model
 from tests.model import GREATEST, GREATEST_NUMBER, GREATEST_SIGNED, LEAST, LEAST_SIGNED, SAMPLES, FixedList, lane
 
 WITHIN = [one for one in SAMPLES if LEAST <= one <= GREATEST]
+
+LANE = lane(700, [(5, 9), (8, 65535), (20, 4000)])
+FULL = lane(0, [(10 * number, number) for number in range(1, 65)])
+EVENTS = [4, 1, 65536, 6, 0, 1, 9, 1, 300, 9, 0, 0]
 
 # Of each call an answer, one with clips, and each refusal; values are made anew for each use.
 CALLS = [
@@ -49,7 +54,27 @@ CALLS = [
     (at, lambda: (GREATEST_NUMBER, FixedList(lane(700, [(5, 9), (8, 65535)])))),
     (at, lambda: (7, FixedList(lane(700, [(5, 9), (8, 9)])))),
     (at, lambda: (7, FixedList([0] * 1025))),
+    (row, lambda: (3, 7, FixedList(LANE))),
+    (row, lambda: (GREATEST_NUMBER, 0, FixedList(LANE))),
+    (row, lambda: (3, 257, FixedList(LANE))),
+    (row, lambda: (3, 7, FixedList(LANE[:-1]))),
+] + [
+    (pass_of, lambda mode=mode: (2, 30, mode, 5, 8192, FixedList(LANE), FixedList(EVENTS))) for mode in range(5)
+] + [
+    (pass_of, lambda: (2, 2, 3, 5, 8192, FixedList(LANE), FixedList())),
+    (pass_of, lambda: (2, 30, 3, 5, 8192, FixedList(LANE), FixedList([0] * 193))),
+    (pass_of, lambda: (2, 30, 3, 5, 8192, FixedList(LANE[:-1]), FixedList(EVENTS))),
+    (pass_of, lambda: (2, 5, 3, 5, 8192, FixedList(LANE), FixedList(EVENTS))),
+    (pass_of, lambda: (2, 30, 3, 5, 8192, FixedList(FULL), FixedList())),
+] + [
+    (heard, lambda mode=mode: (2, 30, mode, 5, 8192, 11, FixedList(LANE), FixedList(EVENTS))) for mode in range(5)
+] + [
+    (heard, lambda: (2, 30, 3, 5, 8192, 11, FixedList([0] * 1025), FixedList(EVENTS))),
+    (heard, lambda: (2, 30, 3, 5, 8192, 11, FixedList(LANE[:-1]), FixedList(EVENTS))),
+    (heard, lambda: (2, 30, 3, 5, 8192, 30, FixedList(LANE), FixedList(EVENTS))),
 ]
+
+TELL_LANES = (pass_of,)
 
 
 def mixed(column, gains):
@@ -153,6 +178,58 @@ class Lanes(unittest.TestCase):
                 self.assertEqual(judge(l)[3:], [heard[0], len(turns), ([0] + [tick for tick, level in turns])[-1]])
 
 
+class Passes(unittest.TestCase):
+    def rides(self, seed, many=300):
+        """Lanes, and passes with events over them."""
+        source = random.Random(seed)
+        for base in (0, 1, 700, 16777180):
+            for _ in range(many // 4):
+                yield model.a_lane(source, base, 36, source.choice([8, 30])), model.a_pass(source, base)
+        for a, b in ((0, 16777216), (1, 16777216), (0, 16777215), (0, 641), (5, 15)):
+            yield FULL, (a, b, source.randint(0, 4), 7, source.randint(0, 65535), [])
+
+    def test_a_read_pass_leaves_it(self):
+        for l, (a, b, mode, back, level, e) in self.rides(21):
+            self.assertEqual(pass_of(a, b, 0, back, level, l, e), [len(l), len(l)] + l + [0])
+
+    def test_a_pass_of_no_ticks_leaves_it(self):
+        for l, (a, b, mode, back, level, e) in self.rides(22):
+            for every in range(5):
+                self.assertEqual(pass_of(a, a, every, back, level, l, []), [len(l), len(l)] + l + [0])
+
+    def test_a_trim_by_16384_leaves_it(self):
+        for l, (a, b, mode, back, level, e) in self.rides(23):
+            self.assertEqual(pass_of(a, b, 4, back, 16384, l, []), [len(l), len(l)] + l + [0])
+            by = [16384 if place % 3 == 2 else number for place, number in enumerate(e)]
+            self.assertEqual(pass_of(a, b, 4, back, 16384, l, by), [len(l), len(l)] + l + [0])
+
+    def test_a_write_pass_twice_is_one(self):
+        twice = 0
+        for l, (a, b, mode, back, level, e) in self.rides(24):
+            once = pass_of(a, b, 3, back, level, l, e)
+            if once[0] != -3:
+                self.assertEqual(pass_of(a, b, 3, back, level, once[2:-1], e), once)
+                twice += 1
+        self.assertGreater(twice, 250)
+
+    def test_what_a_lane_says_after_a_pass_is_what_was_heard_in_it_and_outside_what_it_said(self):
+        for l, (a, b, mode, back, level, e) in self.rides(25, 120):
+            new = pass_of(a, b, mode, back, level, l, e)
+            if new[0] != -3 and b - a < 100:
+                for tick in range(max(a - 3, 0), min(b + 20, 16777216)):
+                    expected = heard(a, b, mode, back, level, tick, l, e) if a <= tick < b else at(tick, l)
+                    self.assertEqual(at(tick, new[2:-1]), expected)
+
+    def test_what_is_said_at_all_ticks_tells_the_bytes_after_a_pass(self):
+        # Passes that say the same at all ticks answer the same bytes, by whatever way they came to it.
+        l = lane(9, [(6, 4)])
+        written = pass_of(3, 8, 3, 0, 7, l, [])
+        for ride in ((3, 8, 2, 0, 5, [3, 1, 7]), (3, 8, 1, 0, 5, [3, 1, 7]), (0, 8, 2, 0, 5, [3, 1, 7, 4, 0, 0]),
+                     (0, 9, 1, 0, 5, [3, 1, 7, 8, 0, 0]), (2, 8, 3, 0, 9, [3, 1, 7]), (3, 9, 3, 0, 7, [8, 1, 4])):
+            a, b, mode, back, level, e = ride
+            self.assertEqual(pass_of(a, b, mode, back, level, l, e), written, ride)
+
+
 class AllCalls(unittest.TestCase):
     def test_what_was_handed_in_is_not_changed_at_any_time(self):
         for call, handed in CALLS:
@@ -181,8 +258,18 @@ class AllCalls(unittest.TestCase):
             self.assertIs(type(answer), list)
             for number in answer:
                 self.assertIs(type(number), int)
-            self.assertEqual(answer[1], 0)
-            self.assertEqual(answer[2], len(answer) - 3)
+            numbers_place = 2 + answer[1]
+            self.assertEqual(answer[numbers_place], len(answer) - numbers_place - 1)
+            self.assertEqual([one for one in answer[2:numbers_place] if not 0 <= one <= 255], [])
+            if answer[1] > 0:
+                self.assertEqual(answer[0], answer[1])
+
+    def test_only_a_lane_is_told_in_bytes(self):
+        for call, handed in CALLS:
+            answer = call(*handed())
+            self.assertEqual(answer[1] > 0, call in TELL_LANES and answer[0] >= 0, call)
+            if answer[1] > 0:
+                self.assertEqual(judge(answer[2:2 + answer[1]])[0], 0)
 
     def test_nothing_is_printed(self):
         out, err = io.StringIO(), io.StringIO()
