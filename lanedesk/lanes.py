@@ -14,6 +14,9 @@ MOST_ROWS = 16
 MOST_LANE_BYTES = 1024
 MOST_ROW_TICKS = 256
 
+# A fault of the second lane of two has its kind told so much higher.
+SECOND_LANE = 16
+
 GREATEST_PAN = 64
 SHARE_STEP = 128
 
@@ -54,6 +57,32 @@ def pass_refusal(a, b, mode, back, l, e):
     if refused is not None:
         return refused
     if a > b or b > TICKS_END or mode > TRIM_MODE or back > LONGEST_WAY_BACK or not are_events(a, b, e):
+        return refusal(OUT_OF_BOUNDS)
+    return None
+
+
+def span_refusal(start, many, l):
+    """The refusal of bytes that tell no lane, or of many ticks from start on that go beyond all ticks, or None."""
+    refused = lane_refusal(l)
+    if refused is not None:
+        return refused
+    if start + many > TICKS_END:
+        return refusal(OUT_OF_BOUNDS)
+    return None
+
+
+def paste_refusal(start, many, to, l, k):
+    """The refusal of what can't be pasted, None if it can."""
+    # That k is too long goes before what is wrong in l.
+    if len(k) > MOST_LANE_BYTES:
+        return refusal(TOO_MANY)
+    refused = lane_refusal(l)
+    if refused is not None:
+        return refused
+    fault = lane_fault(k)
+    if fault is not None:
+        return answer(NO_LANE, [SECOND_LANE + fault[0], fault[1]])
+    if start + many > TICKS_END or to + many > TICKS_END:
         return refusal(OUT_OF_BOUNDS)
     return None
 
@@ -182,3 +211,49 @@ def heard(a, b, mode, back, gain, tick, l, e):
     if tick < a or tick >= b:
         return refusal(OUT_OF_BOUNDS)
     return answer(gain_heard(mode, back, gain, e, tick, gain_at(points_of(l), tick)), [])
+
+
+def paste(start, many, to, l, k):
+    """The bytes of the lane of the bytes l that says for many ticks from to on what k's lane says from start on."""
+    refused = paste_refusal(start, many, to, l, k)
+    if refused is not None:
+        return refused
+    points = points_of(l)
+    pasted = points_of(k)
+    moved = [tick - start + to for tick in ticks_of(pasted)]
+    turns = []
+    for tick in lane_ticks([to, to + many] + ticks_of(points) + moved):
+        said = gain_at(pasted, tick - to + start) if to <= tick < to + many else gain_at(points, tick)
+        turns.append((tick, said))
+    return lane_answer(turns)
+
+
+def cut(start, many, l):
+    """The bytes of the lane of the bytes l without many ticks from start on."""
+    refused = span_refusal(start, many, l)
+    if refused is not None:
+        return refused
+    points = points_of(l)
+    ticks = ticks_of(points)
+    moved = [tick - many for tick in ticks]
+    turns = []
+    for tick in lane_ticks([start] + ticks + moved):
+        stood_at = tick if tick < start else tick + many
+        turns.append((tick, gain_at(points, stood_at)))
+    return lane_answer(turns)
+
+
+def open_of(start, many, l):
+    """The bytes of the lane of the bytes l with many ticks put in at start, that say what it says at start."""
+    refused = span_refusal(start, many, l)
+    if refused is not None:
+        return refused
+    points = points_of(l)
+    ticks = ticks_of(points)
+    moved = [tick + many for tick in ticks]
+    turns = []
+    for tick in lane_ticks(ticks + moved):
+        # Up to start a tick stands where it stood; those put in ask start, those behind them where they came from.
+        stood_at = min(tick, max(start, tick - many))
+        turns.append((tick, gain_at(points, stood_at)))
+    return lane_answer(turns)

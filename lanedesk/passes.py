@@ -16,9 +16,8 @@ TOUCHED = 1
 LONGEST_WAY_BACK = 16
 
 
+# The fader moves on event by event, so it keeps what the way back and latching ask of the events before.
 class Fader:
-    """The fader within a pass: its gain, whether it was ever touched, whether it is held, when a holding last ended."""
-
     def __init__(self, level):
         self.level = held_gain(level)
         self.was_touched = False

@@ -127,6 +127,15 @@ def lane(first, points=(), many=None):
     return list(told_bytes)
 
 
+SIXTY_FOUR = [(10 * number, number) for number in range(1, 65)]
+FULL = lane(0, SIXTY_FOUR)
+
+# Bytes that have a fault, its kind and its place.
+FAULTS = [([], 1, 0), (lane(9, [(5, 8)])[:9], 1, 9), (lane(9, [], 65), 2, 2), (lane(9, [(0, 8)]), 2, 4),
+          (lane(9, [(16777216, 8)]), 2, 4), (lane(9, [(5, 8), (5, 7)]), 3, 10), (lane(9, [(5, 9)]), 3, 8),
+          (lane(9, [(5, 8)]) + [0], 4, 10)]
+
+
 class Fault(Exception):
     """The first fault of a lane's bytes: its kind and place."""
 
@@ -207,10 +216,20 @@ def row(tick, n, handed):
                    [n, 0, n] + [said(first, points, one) for one in range(tick, tick + n)])
 
 
+def bytes_told(told_bytes):
+    """The answer that tells these bytes."""
+    return [len(told_bytes), len(told_bytes)] + told_bytes + [0]
+
+
 def lane_told(first, points=()):
     """The answer that tells the bytes of a lane."""
-    told_bytes = lane(first, points)
-    return [len(told_bytes), len(told_bytes)] + told_bytes + [0]
+    return bytes_told(lane(first, points))
+
+
+def all_said(l, reach):
+    """What a lane says at each tick below reach."""
+    first, points = read_lane(l)
+    return [said(first, points, tick) for tick in range(reach)]
 
 
 def lane_saying(says, marks):
@@ -224,6 +243,14 @@ def lane_saying(says, marks):
             points.append((tick, level))
             last = level
     return [-3, 0, 0] if len(points) > 64 else lane_told(first, points)
+
+
+def touch(tick, level):
+    return [tick, 1, level]
+
+
+def let_go(tick, level=0):
+    return [tick, 0, level]
 
 
 def events(e):
@@ -281,6 +308,60 @@ def heard(a, b, mode, back, gain, tick, handed, e):
         if not is_pass(a, b, mode, back, e) or not a <= tick < b:
             return [-1, 0, 0]
         return [sounding(mode, back, gain, e, tick, said(first, points, tick)), 0, 0]
+    return of_lane(handed, answer)
+
+
+def of_pieces(pieces):
+    """The answer of the lane that says each piece's gain from its tick on; of several at a tick the last counts."""
+    levels = {}
+    for tick, level in pieces:
+        if tick < 16777216:
+            levels[tick] = level
+    first = last = levels.pop(0)
+    points = []
+    for tick in sorted(levels):
+        if levels[tick] != last:
+            last = levels[tick]
+            points.append((tick, last))
+    return [-3, 0, 0] if len(points) > 64 else lane_told(first, points)
+
+
+def paste(start, many, to, l, k):
+    if len(l) > 1024 or len(k) > 1024:
+        return [-2, 0, 0]
+    try:
+        first, points = read_lane(l)
+    except Fault as fault:
+        return [-6, 0, 2] + list(fault.args)
+    try:
+        other, others = read_lane(k)
+    except Fault as fault:
+        return [-6, 0, 2, fault.args[0] + 16, fault.args[1]]
+    if max(start, to) + many > 16777216:
+        return [-1, 0, 0]
+    pieces = [(0, first)] + [point for point in points if point[0] < to]
+    pieces += [(to, said(other, others, start))]
+    pieces += [(tick + to - start, level) for tick, level in others if start < tick < start + many]
+    pieces += [(to + many, said(first, points, to + many))]
+    return of_pieces(pieces + [point for point in points if point[0] > to + many])
+
+
+def cut(start, many, handed):
+    def answer(first, points):
+        if start + many > 16777216:
+            return [-1, 0, 0]
+        pieces = [(0, first)] + [point for point in points if point[0] < start]
+        pieces += [(start, said(first, points, start + many))]
+        return of_pieces(pieces + [(tick - many, level) for tick, level in points if tick > start + many])
+    return of_lane(handed, answer)
+
+
+def open_of(start, many, handed):
+    def answer(first, points):
+        if start + many > 16777216:
+            return [-1, 0, 0]
+        pieces = [(0, first)] + [point for point in points if point[0] <= start]
+        return of_pieces(pieces + [(tick + many, level) for tick, level in points if tick > start])
     return of_lane(handed, answer)
 
 

@@ -3,21 +3,13 @@ import unittest
 
 from lanedesk.lanes import heard
 from tests import model
-from tests.model import GREATEST_NUMBER, lane
+from tests.model import FAULTS, GREATEST_NUMBER, lane, let_go, touch
 
 READ, TOUCH, LATCH, WRITE, TRIM = range(5)
 MODES = (READ, TOUCH, LATCH, WRITE, TRIM)
 
 # Ticks 0 to 9 say 1,000, those from 10 on 2,000.
 STEP = lane(1000, [(10, 2000)])
-
-
-def touch(tick, level):
-    return [tick, 1, level]
-
-
-def let_go(tick, level=0):
-    return [tick, 0, level]
 
 
 def all_heard(a, b, mode, back, gain, l, e):
@@ -246,13 +238,8 @@ class HeardRefusals(unittest.TestCase):
             self.refused([-2, 0, 0], e=(touch(6, 3) * 200)[:many])
 
     def test_each_fault(self):
-        self.refused([-6, 0, 2, 1, 0], l=[])
-        self.refused([-6, 0, 2, 1, 9], l=lane(9, [(5, 8)])[:9])
-        self.refused([-6, 0, 2, 2, 2], l=lane(9, [], 65))
-        self.refused([-6, 0, 2, 2, 4], l=lane(9, [(0, 8)]))
-        self.refused([-6, 0, 2, 3, 10], l=lane(9, [(5, 8), (5, 7)]))
-        self.refused([-6, 0, 2, 3, 8], l=lane(9, [(5, 9)]))
-        self.refused([-6, 0, 2, 4, 10], l=lane(9, [(5, 8)]) + [0])
+        for l, kind, place in FAULTS:
+            self.refused([-6, 0, 2, kind, place], l=l)
 
     def test_what_is_no_pass(self):
         self.refused([-1, 0, 0], a=7, b=6)

@@ -57,6 +57,9 @@ class Interface(unittest.TestCase):
                          ["a", "b", "mode", "back", "gain", "l", "e"])
         self.assertEqual(list(inspect.signature(lanes.heard).parameters),
                          ["a", "b", "mode", "back", "gain", "tick", "l", "e"])
+        self.assertEqual(list(inspect.signature(lanes.paste).parameters), ["start", "many", "to", "l", "k"])
+        self.assertEqual(list(inspect.signature(lanes.cut).parameters), ["start", "many", "l"])
+        self.assertEqual(list(inspect.signature(lanes.open_of).parameters), ["start", "many", "l"])
 
     def test_arguments_by_name(self):
         self.assertEqual(lanes.times(x=[4], g=8192), [1, 0, 3, 2, 0, 1])
@@ -72,6 +75,12 @@ class Interface(unittest.TestCase):
         self.assertEqual(lanes.pass_of(e=[4, 1, 9], l=[7, 0, 0, 0], gain=8, back=2, mode=3, b=16777216, a=4),
                          [10, 10, 7, 0, 1, 0, 4, 0, 0, 0, 9, 0, 0])
         self.assertEqual(lanes.heard(e=[5, 1, 9], l=[7, 0, 0, 0], tick=4, gain=8, back=2, mode=3, b=6, a=4), [8, 0, 0])
+        self.assertEqual(lanes.paste(k=[6, 0, 0, 0], l=[7, 0, 0, 0], to=4, many=16777212, start=0),
+                         [10, 10, 7, 0, 1, 0, 4, 0, 0, 0, 6, 0, 0])
+        self.assertEqual(lanes.cut(l=[7, 0, 1, 0, 9, 0, 0, 0, 6, 0], many=3, start=2),
+                         [10, 10, 7, 0, 1, 0, 6, 0, 0, 0, 6, 0, 0])
+        self.assertEqual(lanes.open_of(l=[7, 0, 1, 0, 9, 0, 0, 0, 6, 0], many=3, start=2),
+                         [10, 10, 7, 0, 1, 0, 12, 0, 0, 0, 6, 0, 0])
 
 
 class Files(unittest.TestCase):

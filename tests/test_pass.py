@@ -3,24 +3,14 @@ import unittest
 
 from lanedesk.lanes import at, heard, judge, pass_of, row
 from tests import model
-from tests.model import GREATEST_NUMBER, lane, lane_told
+from tests.model import FAULTS, FULL, GREATEST_NUMBER, SIXTY_FOUR, bytes_told, lane, lane_told, let_go, touch
 
 READ, TOUCH, LATCH, WRITE, TRIM = range(5)
 MODES = (READ, TOUCH, LATCH, WRITE, TRIM)
 END = 16777216
 
-SIXTY_FOUR = [(10 * number, number) for number in range(1, 65)]
-FULL = lane(0, SIXTY_FOUR)
 STEP = lane(1000, [(10, 2000)])
 SEVERAL = lane(1000, [(5, 2000), (8, 3000), (12, 1000), (20, 500)])
-
-
-def touch(tick, level):
-    return [tick, 1, level]
-
-
-def let_go(tick, level=0):
-    return [tick, 0, level]
 
 
 class PassTestCase(unittest.TestCase):
@@ -51,7 +41,7 @@ class OrdinaryPasses(PassTestCase):
 
     def test_read(self):
         for l in (lane(9), STEP, SEVERAL, FULL):
-            self.assertEqual(pass_of(3, 400, READ, 9, 5, l, touch(4, 6) + let_go(9)), [len(l), len(l)] + l + [0])
+            self.assertEqual(pass_of(3, 400, READ, 9, 5, l, touch(4, 6) + let_go(9)), bytes_told(l))
 
     def test_touch(self):
         self.assertEqual(pass_of(0, 20, TOUCH, 3, 5, STEP, touch(2, 5000) + let_go(4)),
@@ -71,8 +61,8 @@ class OrdinaryPasses(PassTestCase):
 
     def test_no_event_leaves_the_lane_in_touch_and_latch(self):
         for l in (lane(9), STEP, SEVERAL, FULL):
-            self.assertEqual(pass_of(3, 400, TOUCH, 9, 5, l, []), [len(l), len(l)] + l + [0])
-            self.assertEqual(pass_of(3, 400, LATCH, 9, 5, l, []), [len(l), len(l)] + l + [0])
+            self.assertEqual(pass_of(3, 400, TOUCH, 9, 5, l, []), bytes_told(l))
+            self.assertEqual(pass_of(3, 400, LATCH, 9, 5, l, []), bytes_told(l))
 
     def test_gains_above_65535_count_as_that(self):
         for level in (65535, 65536, GREATEST_NUMBER):
@@ -251,14 +241,8 @@ class PassRefusals(unittest.TestCase):
             self.refused([-2, 0, 0], e=(touch(6, 3) * 200)[:many])
 
     def test_each_fault(self):
-        self.refused([-6, 0, 2, 1, 0], l=[])
-        self.refused([-6, 0, 2, 1, 9], l=lane(9, [(5, 8)])[:9])
-        self.refused([-6, 0, 2, 2, 2], l=lane(9, [], 65))
-        self.refused([-6, 0, 2, 2, 4], l=lane(9, [(0, 8)]))
-        self.refused([-6, 0, 2, 2, 4], l=lane(9, [(16777216, 8)]))
-        self.refused([-6, 0, 2, 3, 10], l=lane(9, [(5, 8), (5, 7)]))
-        self.refused([-6, 0, 2, 3, 8], l=lane(9, [(5, 9)]))
-        self.refused([-6, 0, 2, 4, 10], l=lane(9, [(5, 8)]) + [0])
+        for l, kind, place in FAULTS:
+            self.refused([-6, 0, 2, kind, place], l=l)
 
     def test_a_above_b(self):
         self.refused([-1, 0, 0], a=6, b=5)

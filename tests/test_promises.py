@@ -1,4 +1,4 @@
-"""The document's sentences of what always holds, of samples, of the fader, of lanes and of all calls."""
+"""The document's sentences of what always holds: of samples, the fader, lanes, passes and all calls."""
 
 import contextlib
 import io
@@ -6,14 +6,15 @@ import itertools
 import random
 import unittest
 
-from lanedesk.lanes import at, gain, glide, heard, judge, mix, pan, pass_of, peak, position, row, times
+from lanedesk.lanes import at, cut, gain, glide, heard, judge, mix, open_of, pan, pass_of, paste, peak, position, row
+from lanedesk.lanes import times
 from tests import model
-from tests.model import GREATEST, GREATEST_NUMBER, GREATEST_SIGNED, LEAST, LEAST_SIGNED, SAMPLES, FixedList, lane
+from tests.model import FULL, GREATEST, GREATEST_NUMBER, GREATEST_SIGNED, LEAST, LEAST_SIGNED, SAMPLES, SIXTY_FOUR
+from tests.model import FixedList, bytes_told, lane, lane_told
 
 WITHIN = [one for one in SAMPLES if LEAST <= one <= GREATEST]
 
 LANE = lane(700, [(5, 9), (8, 65535), (20, 4000)])
-FULL = lane(0, [(10 * number, number) for number in range(1, 65)])
 EVENTS = [4, 1, 65536, 6, 0, 1, 9, 1, 300, 9, 0, 0]
 
 # Of each call an answer, one with clips, and each refusal; values are made anew for each use.
@@ -72,9 +73,21 @@ CALLS = [
     (heard, lambda: (2, 30, 3, 5, 8192, 11, FixedList([0] * 1025), FixedList(EVENTS))),
     (heard, lambda: (2, 30, 3, 5, 8192, 11, FixedList(LANE[:-1]), FixedList(EVENTS))),
     (heard, lambda: (2, 30, 3, 5, 8192, 30, FixedList(LANE), FixedList(EVENTS))),
+    (paste, lambda: (2, 9, 6, FixedList(LANE), FixedList(FULL))),
+    (paste, lambda: (2, 0, 6, FixedList(LANE), FixedList(FULL))),
+    (paste, lambda: (2, 9, 6, FixedList(LANE), FixedList([0] * 1025))),
+    (paste, lambda: (2, 9, 6, FixedList(LANE[:-1]), FixedList(LANE))),
+    (paste, lambda: (2, 9, 6, FixedList(LANE), FixedList(LANE[:-1]))),
+    (paste, lambda: (2, GREATEST_NUMBER, 6, FixedList(LANE), FixedList(FULL))),
+    (paste, lambda: (2, 1, 6, FixedList(FULL), FixedList(LANE))),
+] + [
+    (call, lambda start=start, many=many, l=l: (start, many, FixedList(l)))
+    for call in (cut, open_of)
+    for start, many, l in ((4, 3, LANE), (0, 0, LANE), (0, 16777216, FULL), (4, 3, [0] * 1025), (4, 3, LANE[:-1]),
+                           (GREATEST_NUMBER, 3, LANE))
 ]
 
-TELL_LANES = (pass_of,)
+TELL_LANES = (pass_of, paste, cut, open_of)
 
 
 def mixed(column, gains):
@@ -190,18 +203,18 @@ class Passes(unittest.TestCase):
 
     def test_a_read_pass_leaves_it(self):
         for l, (a, b, mode, back, level, e) in self.rides(21):
-            self.assertEqual(pass_of(a, b, 0, back, level, l, e), [len(l), len(l)] + l + [0])
+            self.assertEqual(pass_of(a, b, 0, back, level, l, e), bytes_told(l))
 
     def test_a_pass_of_no_ticks_leaves_it(self):
         for l, (a, b, mode, back, level, e) in self.rides(22):
             for every in range(5):
-                self.assertEqual(pass_of(a, a, every, back, level, l, []), [len(l), len(l)] + l + [0])
+                self.assertEqual(pass_of(a, a, every, back, level, l, []), bytes_told(l))
 
     def test_a_trim_by_16384_leaves_it(self):
         for l, (a, b, mode, back, level, e) in self.rides(23):
-            self.assertEqual(pass_of(a, b, 4, back, 16384, l, []), [len(l), len(l)] + l + [0])
+            self.assertEqual(pass_of(a, b, 4, back, 16384, l, []), bytes_told(l))
             by = [16384 if place % 3 == 2 else number for place, number in enumerate(e)]
-            self.assertEqual(pass_of(a, b, 4, back, 16384, l, by), [len(l), len(l)] + l + [0])
+            self.assertEqual(pass_of(a, b, 4, back, 16384, l, by), bytes_told(l))
 
     def test_a_write_pass_twice_is_one(self):
         twice = 0
@@ -228,6 +241,86 @@ class Passes(unittest.TestCase):
                      (0, 9, 1, 0, 5, [3, 1, 7, 8, 0, 0]), (2, 8, 3, 0, 9, [3, 1, 7]), (3, 9, 3, 0, 7, [8, 1, 4])):
             a, b, mode, back, level, e = ride
             self.assertEqual(pass_of(a, b, mode, back, level, l, e), written, ride)
+
+
+class EditedLanes(unittest.TestCase):
+    def lanes(self, seed, many=400):
+        """Lanes, a tick near their points, and how many ticks from there on."""
+        source = random.Random(seed)
+        for base in (0, 1, 700, 16777150):
+            for _ in range(many // 4):
+                start = source.choice([0, base, source.randint(base, min(base + 50, 16777216))])
+                reach = source.choice([0, 1, 5, 60, 16777216])
+                yield model.a_lane(source, base, 40, source.choice([8, 30])), start, min(reach, 16777216 - start)
+        for start, reach in ((0, 3), (10, 10), (640, 5), (5, 16776000), (5, 16777211), (16777216, 0)):
+            yield FULL, start, reach
+
+    def test_what_is_cut_out_where_so_much_was_opened_is_as_it_was_but_for_what_went_beyond(self):
+        whole = 0
+        for l, start, many in self.lanes(35):
+            first, points = model.read_lane(l)
+            left = [point for point in points if point[0] <= start or point[0] + many <= 16777215]
+            opened = open_of(start, many, l)[2:-1]
+            self.assertEqual(cut(start, many, opened), lane_told(first, left), (l, start, many))
+            whole += left == points and many > 0
+        self.assertGreater(whole, 100)
+
+    def test_that_sentence_in_one_example(self):
+        l = lane(3, [(5, 4), (9, 5), (16777210, 6)])
+        self.assertEqual(cut(7, 5, open_of(7, 5, l)[2:-1]), bytes_told(l))
+        self.assertEqual(cut(7, 6, open_of(7, 6, l)[2:-1]), lane_told(3, [(5, 4), (9, 5)]))
+
+    def test_what_is_said_at_all_ticks_tells_the_bytes_that_are_told(self):
+        # Each new lane is told in the bytes that its first gain and its turns take, whatever call made it.
+        for l, start, many in self.lanes(36, 200):
+            for answer in (cut(start, many, l), open_of(start, many, l), paste(0, many, start, l, LANE),
+                           paste(start, many, 0, LANE, l), pass_of(start, start + many, 3, 0, 700, l, [])):
+                if answer[0] != -3:
+                    new = answer[2:-1]
+                    turns = self.said_near(l, start, many, new)
+                    points = [turns[i] for i in range(1, len(turns)) if turns[i][1] != turns[i - 1][1]]
+                    self.assertEqual(lane(turns[0][1], points), new, (l, start, many))
+
+    def said_near(self, l, start, many, new):
+        """What a new lane says at tick 0 and around all ticks at which it might turn."""
+        ticks = {0}
+        for lane_bytes in (l, LANE, new):
+            for tick, level in model.read_lane(lane_bytes)[1]:
+                for mark in (tick, tick + start, tick - start, tick + many, tick - many, start, start + many):
+                    ticks |= {one for one in (mark - 1, mark, mark + 1) if 0 <= one < 16777216}
+        return [(tick, at(tick, new)[0]) for tick in sorted(ticks)]
+
+    def test_nothing_pasted_cut_or_opened_leaves_it(self):
+        for l, start, many in self.lanes(37):
+            self.assertEqual(paste(many, 0, start, l, LANE), bytes_told(l))
+            self.assertEqual(cut(start, 0, l), bytes_told(l))
+            self.assertEqual(open_of(start, 0, l), bytes_told(l))
+
+    def test_pasted_over_all_ticks_it_is_the_other_lane(self):
+        for l, start, many in self.lanes(38):
+            self.assertEqual(paste(0, 16777216, 0, LANE, l), bytes_told(l))
+            self.assertEqual(paste(0, 16777216, 0, FULL, l), bytes_told(l))
+
+    def test_pasted_onto_its_own_place_it_is_as_it_was(self):
+        for l, start, many in self.lanes(39):
+            self.assertEqual(paste(start, many, start, l, l), bytes_told(l))
+
+    def test_a_full_lane_stays_full(self):
+        moved = lane_told(0, [(tick + 7, level) for tick, level in SIXTY_FOUR])
+        self.assertEqual(open_of(0, 7, FULL), moved)
+        self.assertEqual(cut(0, 7, moved[2:-1]), bytes_told(FULL))
+
+    def test_a_new_lane_can_be_handed_over_again(self):
+        l = lane(1000, [(5, 2000), (8, 3000)])
+        l = pass_of(3, 9, 4, 0, 8192, l, [])[2:-1]
+        self.assertEqual(l, lane(1000, [(3, 500), (5, 1000), (8, 1500), (9, 3000)]))
+        l = open_of(5, 10, l)[2:-1]
+        self.assertEqual(l, lane(1000, [(3, 500), (5, 1000), (18, 1500), (19, 3000)]))
+        l = paste(3, 2, 10, l, l)[2:-1]
+        self.assertEqual(l, lane(1000, [(3, 500), (5, 1000), (10, 500), (12, 1000), (18, 1500), (19, 3000)]))
+        l = cut(4, 7, l)[2:-1]
+        self.assertEqual(l, lane(1000, [(3, 500), (5, 1000), (11, 1500), (12, 3000)]))
+        self.assertEqual(row(2, 12, l)[3:], [1000, 500, 500] + [1000] * 6 + [1500, 3000, 3000])
 
 
 class AllCalls(unittest.TestCase):

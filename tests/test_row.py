@@ -3,7 +3,7 @@ import unittest
 
 from lanedesk.lanes import at, row
 from tests import model
-from tests.model import GREATEST_NUMBER, lane
+from tests.model import FAULTS, GREATEST_NUMBER, lane
 
 SEVERAL = lane(700, [(5, 9), (8, 65535), (300, 0)])
 
@@ -68,14 +68,9 @@ class RowRefusals(unittest.TestCase):
         self.assertEqual(row(0, 3, [0] * 1024), [-6, 0, 2, 4, 4])
 
     def test_each_fault(self):
-        for n in (0, 1, 256):
-            self.assertEqual(row(0, n, []), [-6, 0, 2, 1, 0])
-            self.assertEqual(row(0, n, lane(9, [(5, 8)])[:9]), [-6, 0, 2, 1, 9])
-            self.assertEqual(row(0, n, lane(9, [], 65)), [-6, 0, 2, 2, 2])
-            self.assertEqual(row(0, n, lane(9, [(0, 8)])), [-6, 0, 2, 2, 4])
-            self.assertEqual(row(0, n, lane(9, [(5, 8), (5, 7)])), [-6, 0, 2, 3, 10])
-            self.assertEqual(row(0, n, lane(9, [(5, 9)])), [-6, 0, 2, 3, 8])
-            self.assertEqual(row(0, n, lane(9, [(5, 8)]) + [0]), [-6, 0, 2, 4, 10])
+        for l, kind, place in FAULTS:
+            for n in (0, 1, 256):
+                self.assertEqual(row(0, n, l), [-6, 0, 2, kind, place])
 
     def test_too_many_ticks_go_before_faults(self):
         self.assertEqual(row(0, 257, []), [-2, 0, 0])
